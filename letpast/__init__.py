@@ -1,0 +1,1 @@
+"""Letpast: blocks rearranged where they lie."""
