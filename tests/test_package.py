@@ -14,6 +14,13 @@ INTERFACE = {
     },
     "texts": {"BadText": (), "read_layout": (), "write_layout": ()},
     "rooms": {"BadRooms": (), "settled_rooms": ()},
+    "plans": {
+        "BadPlan": (), "NotPossible": (), "LeftAside": (), "settled_plan": (), "checked": (), "states_of": (),
+        "cells_moved": (), "joined": (), "reversed_plan": (),
+    },
+    "cells": {"BadCells": (), "carried": (), "steps_of": (), "undone": ()},
+    "slides": {"BadTarget": (), "slides": ()},
+    "gaps": {"BadLength": (), "gap_plan": ()},
 }
 
 
