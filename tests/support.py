@@ -2,6 +2,7 @@
 
 import itertools
 import random
+import time
 
 from letpast.errors import LetError
 from letpast.layouts import Layout
@@ -136,3 +137,37 @@ def random_plans(count, most_steps):
             plan.append(chance.choice(follower.possible_steps()))
             follower.put(*plan[-1])
         yield text, follower.rooms, tuple(plan)
+
+
+def bad_order(number, reason):
+    return ("BadOrder", {"number": number, "reason": reason})
+
+
+class WithinSeconds:
+    """A block of a test that has to be done within so many seconds."""
+
+    def __init__(self, seconds):
+        self.seconds = seconds
+
+    def __enter__(self):
+        self.begin = time.perf_counter()
+
+    def __exit__(self, kind, value, trace):
+        took = time.perf_counter() - self.begin
+        if kind is None and took > self.seconds:
+            raise AssertionError(f"{took:.2f} seconds, and not at most {self.seconds}")
+
+
+def in_a_row(sizes, free=0):
+    """The layout of blocks n0, n1 and so on of these sizes, side by side from 0 on, with free cells behind them."""
+    blocks = [(f"n{number}", sum(sizes[:number]), size) for number, size in enumerate(sizes)]
+    return Layout(sum(sizes) + free, blocks)
+
+
+def layouts_of(sizes, free):
+    """Every layout with blocks a, b and so on of these sizes and so many free cells, in every order."""
+    blocks = list(zip("abcdefghijkl", sizes))
+    for row in itertools.permutations(blocks):
+        for ends in itertools.combinations_with_replacement(range(free + 1), len(row)):
+            starts = [end + sum(size for _, size in row[:number]) for number, end in enumerate(ends)]
+            yield Layout(sum(sizes) + free, [(name, start, size) for start, (name, size) in zip(starts, row)])
