@@ -1,7 +1,9 @@
 """Packing: which sizes can lie in some rooms at one time.
 
 A set of sizes is told as a whole number: its bit with an index stands for the size with this
-index. So a list with an item for each set has it at the index that is the set.
+index. So a list with an item for each set has it at the index that is the set. A family of sets is
+told as a whole number, too: its bit with an index stands for the set that is this index. So one
+shift of such a number adds a size to all sets of a family at once.
 """
 
 from letpast.errors import LetError
@@ -34,60 +36,85 @@ def cells_of_sets(sizes):
 
 
 def indices_in(chosen):
-    """The indices of the sizes in a set, from the least one on."""
-    return [index for index in range(chosen.bit_length()) if (chosen >> index) & 1]
+    """The indices of the sizes in a set, or of the sets in a family, from the least one on."""
+    signs = f"{chosen:b}"
+    return [index for index, sign in enumerate(signs[::-1]) if sign == "1"]
 
 
-# Rooms are filled one after the other. A fill is the pair of the last room that is used and how
-# many of its cells are. The lesser fill leaves more: for the sizes still to come it is the better.
-
-def fill_with(fill, size, rooms):
-    """The fill behind one size more, in the first room that takes it; or None."""
-    number, cells = fill
-    for at in range(number, len(rooms)):
-        if cells + size <= rooms[at]:
-            return at, cells + size
-        cells = 0
-    return None
+def families_without(count):
+    """For each of so many sizes the family of all sets that it is not in."""
+    every = (1 << (1 << count)) - 1
+    # Such a family, and itself shifted by the bit of the size, are together the family of all sets.
+    return [every // ((1 << (1 << index)) + 1) for index in range(count)]
 
 
-def least_fill(fills, chosen, sizes, rooms):
-    """The least fill of a set, from the least fills of its parts; None if it cannot be packed."""
-    least = None
-    for index in indices_in(chosen):
-        part = fills[chosen ^ (1 << index)]
-        # What cannot be packed in part cannot be packed.
-        if part is None:
-            return None
-        fill = fill_with(part, sizes[index], rooms)
-        if fill is not None and (least is None or fill < least):
-            least = fill
-    return least
+def with_parts(family, without):
+    """A family, and with it all parts of its sets."""
+    for index, others in enumerate(without):
+        family |= (family >> (1 << index)) & others
+    return family
 
 
-def least_fills(sizes, rooms):
-    """For each set of sizes its least fill, or None if it cannot be packed, in a list."""
-    fills = [(0, 0)]
-    for chosen in range(1, 1 << len(sizes)):
-        fills.append(least_fill(fills, chosen, sizes, rooms))
-    return fills
+def with_room(family, sizes, room, without):
+    """The family of the sets that can be packed with one room more."""
+    # A fill of the room is its cells, and the family of the sets that its sizes make with those of
+    # the given family that have none of them.
+    fills = [(0, family)]
+    left = sum(sizes)
+    greatest_first = sorted([(size, index) for index, size in enumerate(sizes)], reverse=True)
+    for size, index in greatest_first:
+        others = without[index]
+        longer = [(cells + size, (sets & others) << (1 << index)) for cells, sets in fills if cells + size <= room]
+        # Where this size and all behind it fit, a fill without it would be a part of one with it.
+        fills = [*longer, *[fill for fill in fills if fill[0] + left > room]]
+        left -= size
+    packable = 0
+    for _, sets in fills:
+        packable |= sets
+    return with_parts(packable, without)
+
+
+def packable_sets(sizes, rooms):
+    """The family of the sets of sizes that can be packed."""
+    without = families_without(len(sizes))
+    family = 1
+    for room in rooms:
+        family = with_room(family, sizes, room, without)
+    return family
 
 
 def most_of_sets(sizes, rooms):
     """For each set of sizes the most cells that some of them have that can be packed, in a list."""
     cells = cells_of_sets(sizes)
-    most = []
-    for chosen, fill in enumerate(least_fills(sizes, rooms)):
-        if fill is None:
-            most.append(max([most[chosen ^ (1 << index)] for index in indices_in(chosen)]))
-        else:
-            most.append(cells[chosen])
+    most = [0] * len(cells)
+    for chosen in indices_in(packable_sets(sizes, rooms)):
+        most[chosen] = cells[chosen]
+    for chosen, held in enumerate(cells):
+        if most[chosen] < held:
+            most[chosen] = max([most[chosen ^ (1 << index)] for index in indices_in(chosen)])
     return most
+
+
+def fit_in_turn(sizes, rooms):
+    """Whether all sizes fit, the greatest one first, each in the first room that takes it by then."""
+    left = list(rooms)
+    for size in sorted(sizes, reverse=True):
+        wide = [number for number, cells in enumerate(left) if size <= cells]
+        if not wide:
+            return False
+        left[wide[0]] -= size
+    return True
 
 
 def most_packed(sizes, rooms):
     """The most cells that some of the sizes have together that can be packed."""
-    return most_of_sets(sizes, rooms)[-1]
+    widest = max([0, *rooms])
+    fitting = [size for size in sizes if size <= widest]
+    # To look at all sets takes long; where all sizes fit with ease, or none does, there is no need.
+    if fit_in_turn(fitting, rooms):
+        return sum(fitting)
+    cells = cells_of_sets(fitting)
+    return max([cells[chosen] for chosen in indices_in(packable_sets(fitting, rooms))])
 
 
 def first_room(size, later, rooms, wanted):

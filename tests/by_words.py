@@ -40,6 +40,28 @@ def packed_size_by_size(sizes, rooms):
     return best(0, tuple(rooms))
 
 
+def most_set_by_set(sizes, rooms):
+    """The most cells that can be packed, for up to twelve sizes, however great.
+
+    Each set is packed into the rooms one after the other, from its parts with one size less: the last room that is used
+    is the first one that can be, with the fewest cells.
+    """
+    fills, most = [(0, 0)], 0
+    for chosen in range(1, 2 ** len(sizes)):
+        inside = [index for index in range(len(sizes)) if chosen >> index & 1]
+        found = []
+        for index in inside:
+            part = fills[chosen - 2 ** index]
+            for number in range(part[0], len(rooms)) if part else ():
+                held = sizes[index] + (part[1] if number == part[0] else 0)
+                if held <= rooms[number]:
+                    found.append((number, held))
+        fills.append(min(found, default=None))
+        if found:
+            most = max(most, sum(sizes[index] for index in inside))
+    return most
+
+
 def threshold_by_words(layout, rooms):
     sizes = [size for _, _, size in layout.blocks]
     return layout.capacity - sum(sizes) + packed_by_words(sizes, rooms)[0]
@@ -50,12 +72,27 @@ def alike(names, order):
     return [name for name in order if name in names] == list(names)
 
 
-def blocking_pair_by_words(layout, order, rooms):
-    limit = threshold_by_words(layout, rooms)
+def blocking_pair_above(limit, layout, order):
+    """The first pair of blocks that are greater than a limit and that an order reverses, or None."""
     for one, other in itertools.combinations(layout.order, 2):
         if min(layout.size_of(one), layout.size_of(other)) > limit and not alike((one, other), order):
             return one, other
     return None
+
+
+def blocking_pair_by_words(layout, order, rooms):
+    return blocking_pair_above(threshold_by_words(layout, rooms), layout, order)
+
+
+def orders_keeping(great, names, turned=False):
+    """All orders in which some names keep the order that they have in names, one by one; turned: the last one first."""
+    waiting = [name for name in names if name in great]
+    for name in reversed(names) if turned else names:
+        if name not in waiting[1:]:
+            for rest in orders_keeping(great, [other for other in names if other != name], turned):
+                yield (name, *rest)
+    if not names:
+        yield ()
 
 
 def orders_by_words(layout, rooms):
